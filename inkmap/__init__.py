@@ -1,0 +1,1 @@
+"""Drawings of points and ropes told by the order of ropes round each point."""
