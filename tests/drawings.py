@@ -91,6 +91,86 @@ def circle(ropes):
     return [[2 * k, (2 * k - 1) % (2 * ropes)] for k in range(ropes)]
 
 
+def by_neighbours(near):
+    """The drawing without ropes twice in which near[p] are the neighbours of p in their order round it."""
+    rope_of = {}
+    for point, others in enumerate(near):
+        for other in others:
+            if point < other:
+                rope_of[point, other] = len(rope_of)
+    return [[2 * rope_of[min(p, q), max(p, q)] + (p > q) for q in others] for p, others in enumerate(near)]
+
+
+def all_joined(points):
+    """Each point joined to each other one."""
+    return by_neighbours([[other for other in range(points) if other != point] for point in range(points)])
+
+
+def grid(wide, high):
+    """Points in rows, each joined to those beside, above and below it."""
+    near = []
+    for row in range(high):
+        for column in range(wide):
+            steps = [(row, column + 1), (row + 1, column), (row, column - 1), (row - 1, column)]
+            near.append([wide * r + c for r, c in steps if 0 <= r < high and 0 <= c < wide])
+    return by_neighbours(near)
+
+
+def twelve():
+    """Twelve points on a ball, each with five neighbours: flat."""
+    near = [[1, 2, 3, 4, 5]]
+    for k in range(5):
+        near.append([0, 1 + (k - 1) % 5, 6 + (k - 1) % 5, 6 + k, 1 + (k + 1) % 5])
+    for k in range(5):
+        near.append([11, 6 + (k + 1) % 5, 1 + (k + 1) % 5, 1 + k, 6 + (k - 1) % 5])
+    return by_neighbours(near + [[10, 9, 8, 7, 6]])
+
+
+def beside(one, other):
+    """Both drawings on one paper, the second one's points and ropes numbered behind the first one's."""
+    count = len(sum(one, []))
+    return one + [[end + count for end in ends] for ends in other]
+
+
+def stirred(points, ropes, seed):
+    """A drawing that looks like chance and is the same each time."""
+    rounds = [[] for point in range(points)]
+    for end in range(2 * ropes):
+        seed = (seed * 1103515245 + 12345) % 2 ** 31
+        ends = rounds[(seed >> 8) % points]
+        seed = (seed * 1103515245 + 12345) % 2 ** 31
+        ends.insert((seed >> 8) % (len(ends) + 1), end)
+    return rounds
+
+
+def points_of(rounds):
+    return {end: point for point, ends in enumerate(rounds) for end in ends}
+
+
+def is_loop_free(rounds):
+    point_of = points_of(rounds)
+    return all(point_of[end] != point_of[end ^ 1] for end in point_of)
+
+
+def stirred_drawings():
+    """Drawings of up to eight points and twelve ropes."""
+    return [stirred(points, ropes, 100 * points + ropes) for points in range(1, 9) for ropes in range(13)]
+
+
+def hanging(count, pairs):
+    """Which of the numbers below count hang together by pairs: for each one the least that it hangs together with."""
+    mark = list(range(count))
+    changed = True
+    while changed:
+        changed = False
+        for one, other in pairs:
+            least = min(mark[one], mark[other])
+            if (mark[one], mark[other]) != (least, least):
+                mark[one] = mark[other] = least
+                changed = True
+    return mark
+
+
 def from_least(ends):
     place = ends.index(min(ends))
     return ends[place:] + ends[:place]
@@ -116,15 +196,8 @@ def slow_faces(rounds):
 
 def slow_pieces(rounds):
     """Pieces by giving joined points the same mark until nothing changes."""
-    mark = list(range(len(rounds)))
-    point_of = {end: point for point, ends in enumerate(rounds) for end in ends}
-    changed = True
-    while changed:
-        changed = False
-        for end, point in point_of.items():
-            if mark[point_of[end ^ 1]] > mark[point]:
-                mark[point_of[end ^ 1]] = mark[point]
-                changed = True
+    point_of = points_of(rounds)
+    mark = hanging(len(rounds), [(point_of[end], point_of[end ^ 1]) for end in point_of])
     return [[point for point, its in enumerate(mark) if its == least] for least in sorted(set(mark))]
 
 

@@ -27,6 +27,18 @@ METHODS = set(
     "items join keys ljust lower lstrip partition pop remove replace reverse rfind rjust rpartition rsplit rstrip "
     "setdefault split splitlines startswith strip update upper values zfill bit_length".split()
 )
+CHANGING = {"append", "clear", "extend", "insert", "pop", "remove", "reverse", "setdefault", "update"}
+NEVER = set(
+    "register mro elements open input version_info with_traceback add_note format format_map attrgetter breakpoint "
+    "builtins compile copyright credits delattr dir eval exec exit gc getattr globals hasattr help id importlib license "
+    "locals methodcaller os quit setattr super sys type vars chr print".split()
+)
+KEYWORDS = {
+    "sorted": {"key", "reverse"}, "min": {"key", "default"}, "max": {"key", "default"}, "sum": {"start"},
+    "enumerate": {"start"}, "zip": {"strict"},
+}
+WALKED = {"zip", "enumerate", "reversed", "range", "items", "keys", "values"}
+WALKING = {"list", "tuple", "dict", "sorted", "sum", "any", "all", "enumerate", "zip", "min", "max"}
 SPECIAL = {"__init__", "__eq__", "__repr__", "__str__", "__len__"}
 WORDS = (
     r"\b(type|typing|typing_extensions|enum|Enum|IntEnum|StrEnum|Flag|IntFlag|Generic|Protocol|ABC|ABCMeta|namedtuple"
@@ -48,6 +60,26 @@ def nodes(*kinds):
 
 def own_functions():
     return {node.name for name, node in nodes(ast.FunctionDef)}
+
+
+def parents():
+    """Each node of the package's files with its file and the node that it stands in."""
+    return [(name, node, inner) for name, node in nodes(ast.AST) for inner in ast.iter_child_nodes(node)]
+
+
+def called(node):
+    """The name by which something is called, or None."""
+    if not isinstance(node, ast.Call):
+        return None
+    return node.func.id if isinstance(node.func, ast.Name) else getattr(node.func, "attr", None)
+
+
+def walked_names(node):
+    """The names of what a loop walks, itself or through enumerate and its like."""
+    if called(node) in WALKED:
+        found = node.args + ([node.func.value] if isinstance(node.func, ast.Attribute) else [])
+        return [name for inner in found for name in walked_names(inner)]
+    return [ast.unparse(node)]
 
 
 class Language(unittest.TestCase):
@@ -162,6 +194,74 @@ class Language(unittest.TestCase):
     def test_sets_are_not_kept(self):
         """L13, L24"""
         self.assertEqual(nodes(ast.Set, ast.SetComp), [])
+        for name, node, inner in parents():
+            if called(inner) in ("set", "frozenset"):
+                self.assertIn(called(node), ("sorted", "len"), (name, inner.lineno))
+                self.assertEqual(node.keywords, [], (name, inner.lineno))
+
+    def test_nothing_is_kept_at_a_files_top(self):
+        """L3, L15: the package needs no names there but those of defs, classes and imports."""
+        for name, tree in trees():
+            for node in tree.body[1:]:
+                self.assertIsInstance(node, (ast.ImportFrom, ast.FunctionDef, ast.ClassDef), (name, node.lineno))
+
+    def test_names_that_are_not_used(self):
+        """L17, L27"""
+        for name, node in nodes(ast.Name):
+            self.assertNotIn(node.id, NEVER, (name, node.lineno))
+        for name, node in nodes(ast.Attribute):
+            self.assertNotIn(node.attr, NEVER, (name, node.lineno))
+            self.assertFalse(re.match(r"(f|tb|co|gi|cr|ag)_", node.attr), (name, node.lineno))
+
+    def test_classes_values_and_methods(self):
+        """L18, L26, L28"""
+        own = {attr for kind in (str, int, list, tuple, dict, set, bytes) for attr in dir(kind)}
+        methods = {inner.name for name, node in nodes(ast.ClassDef) for inner in node.body
+                   if isinstance(inner, ast.FunctionDef)}
+        stored = [(name, node) for name, node in nodes(ast.Attribute) if isinstance(node.ctx, ast.Store)]
+        self.assertEqual((methods - {"__init__"}) & own, set())
+        for name, node in stored:
+            self.assertNotIn(node.attr, own | methods, (name, node.lineno))
+            self.assertEqual(ast.unparse(node.value), "self", (name, node.lineno))
+        for name, node in nodes(ast.FunctionDef):
+            if node.name == "__init__":
+                self.assertFalse([inner for inner in ast.walk(node) if isinstance(inner, ast.Return)], name)
+
+    def test_only_errors_of_the_programs_own_are_raised_and_taken(self):
+        """L19"""
+        own = {node.name for name, node in nodes(ast.ClassDef) if name == "errors.py"}
+        for name, node in nodes(ast.ExceptHandler):
+            self.assertIn(getattr(node.type, "id", None), own, (name, node.lineno))
+        for name, node in nodes(ast.Raise):
+            self.assertIn(called(node.exc), own, (name, node.lineno))
+
+    def test_keywords(self):
+        """L22"""
+        for name, node in nodes(ast.Call):
+            for keyword in node.keywords:
+                self.assertIn(keyword.arg, KEYWORDS.get(called(node), ()), (name, node.lineno))
+
+    def test_walked_at_once_and_not_changed_meanwhile(self):
+        """L23"""
+        for name, node, inner in parents():
+            if called(inner) in WALKED:
+                loop = isinstance(node, (ast.For, ast.comprehension)) and node.iter is inner
+                first = called(node) in WALKING and inner is node.args[0]
+                self.assertTrue(loop or first or called(node) in ("zip", "join"), (name, inner.lineno))
+        for name, node in nodes(ast.For):
+            for inner in [inner for statement in node.body for inner in ast.walk(statement)]:
+                changed = None
+                if called(inner) in CHANGING and isinstance(inner.func, ast.Attribute):
+                    changed = ast.unparse(inner.func.value)
+                if isinstance(inner, ast.Subscript) and isinstance(inner.ctx, ast.Store):
+                    changed = ast.unparse(inner.value)
+                self.assertNotIn(changed, walked_names(node.iter), (name, inner))
+
+    def test_texts(self):
+        """L27"""
+        for name, node in nodes(ast.Constant):
+            if isinstance(node.value, str):
+                self.assertNotIn("%", node.value, (name, node.lineno))
 
 
 if __name__ == "__main__":
